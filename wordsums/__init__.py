@@ -1,0 +1,1 @@
+"""Sums of words whose letters stand for figures."""
