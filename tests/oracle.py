@@ -115,49 +115,97 @@ def table_by_reading(base, sums):
     return go(0, {})
 
 
-def answers_shown(base, sums, table):
-    """The answers of a table each case of which is as point 6 says; an AssertionError if one is not."""
-    letters = letters_of(sums)
+def letters_up_to(words, place):
+    """The letters that stand in the columns 0 to place, one by one as they stand."""
+    return [letter for word in words for column, letter in enumerate(reversed(word)) if column <= place]
+
+
+def total_letter(one, place):
+    return one[1][len(one[1]) - 1 - place]
+
+
+def must_be(base, one, known, place):
+    """The figure that the total's letter in a column must be (point 6); None if that is not so."""
+    addends, total = one
+    if place not in range(len(total)) or total_letter(one, place) in known:
+        return None
+    others = letters_up_to(addends, place) + letters_up_to([total], place - 1)
+    if not set(others) <= set(known) or differ(base, one, known, place) % base**place:
+        return None
+    return forced(base, one, known, total_letter(one, place), place)
+
+
+def stands(base, sums, known, case):
+    """Whether a case, but for the cases in it, is one of those that point 6 lists."""
+    sizes = {"cases": 3, "so": 4, "taken": 3, "off": 3, "over": 2, "answer": 1}
+    kind = case[0] if isinstance(case, tuple) and case else None
+    if kind not in sizes or len(case) != sizes[kind]:
+        return False
+    if kind == "answer":
+        return set(known) == set(letters_of(sums)) and is_answer(base, sums, known)
+    if kind == "cases":
+        _, letter, rows = case
+        if letter not in letters_of(sums) or letter in known or not isinstance(rows, tuple):
+            return False
+        told = [row[0] if isinstance(row, tuple) and len(row) == 2 else None for row in rows]
+        return told == free(base, sums, known, letter)
+    if case[1] not in range(len(sums)):
+        return False
+    one = addends, total = sums[case[1]]
+    if kind == "over":
+        return set(letters_up_to((*addends, total), 5)) <= set(known) and differ(base, one, known, 6) != 0
+    place = case[2]
+    if place not in range(max(len(word) for word in (*addends, total))):
+        return False
+    if kind == "off":
+        if not set(letters_up_to((*addends, total), place)) <= set(known):
+            return False
+        return differ(base, one, known, place + 1) % base ** (place + 1) != 0
+    figure = must_be(base, one, known, place)
+    if figure is None:
+        return False
+    return (figure in free(base, sums, known, total_letter(one, place))) == (kind == "so")
+
+
+def shown(base, sums, table):
+    """The answers of a table, in its order, or None for what is no table."""
     found = []
 
-    def column_letters(at, columns):
-        addends, total = sums[at]
-        return {letter for word in (*addends, total) for letter in word[-columns:]}
-
     def look(case, known):
-        assert isinstance(case, tuple), case
-        kind = case[0]
-        if kind == "cases":
-            _, letter, rows = case
-            assert isinstance(rows, tuple) and letter in letters and letter not in known, case
-            assert [figure for figure, _ in rows] == free(base, sums, known, letter), case
-            for figure, inner in rows:
-                look(inner, {**known, letter: figure})
-        elif kind in ("so", "taken"):
-            at, place = case[1:3]
-            letter = sums[at][1][len(sums[at][1]) - 1 - place]
-            assert column_letters(at, place + 1) - set(known) == {letter}, case
-            assert differ(base, sums[at], known, place) % base**place == 0, case
-            figure = forced(base, sums[at], known, letter, place)
-            assert (figure in free(base, sums, known, letter)) == (kind == "so"), case
-            assert len(case) == (4 if kind == "so" else 3), case
-            if kind == "so":
-                look(case[3], {**known, letter: figure})
-        elif kind == "off":
-            _, at, place = case
-            assert column_letters(at, place + 1) <= set(known), case
-            assert differ(base, sums[at], known, place + 1) % base ** (place + 1), case
-        elif kind == "over":
-            _, at = case
-            assert column_letters(at, 6) <= set(known), case
-            assert differ(base, sums[at], known, 6), case
-        else:
-            assert case == ("answer",), case
-            assert is_answer(base, sums, known), case
-            found.append(tuple(known[letter] for letter in letters))
+        if not stands(base, sums, known, case):
+            return False
+        if case[0] == "cases":
+            return all([look(inner, {**known, case[1]: figure}) for figure, inner in case[2]])
+        if case[0] == "so":
+            one = sums[case[1]]
+            return look(case[3], {**known, total_letter(one, case[2]): must_be(base, one, known, case[2])})
+        if case[0] == "answer":
+            found.append(tuple(known[letter] for letter in letters_of(sums)))
+        return True
 
-    look(table, {})
-    return found
+    return found if look(table, {}) else None
+
+
+def any_table(base, sums, choose):
+    """A table in which choose picks, for each case, one of all that can stand there."""
+    letters = letters_of(sums)
+    columns = [(at, place) for at in range(len(sums)) for place in range(6)]
+
+    def go(known):
+        heads = [("cases", letter, tuple((f, None) for f in free(base, sums, known, letter))) for letter in letters]
+        heads += [("so", *column, None) for column in columns]
+        heads += [(kind, *column) for kind in ("taken", "off") for column in columns]
+        heads += [("over", at) for at in range(len(sums))] + [("answer",)]
+        case = choose([head for head in heads if stands(base, sums, known, head)])
+        if case[0] == "cases":
+            return (*case[:2], tuple((figure, go({**known, case[1]: figure})) for figure, _ in case[2]))
+        if case[0] == "so":
+            one = sums[case[1]]
+            figure = must_be(base, one, known, case[2])
+            return (*case[:3], go({**known, total_letter(one, case[2]): figure}))
+        return case
+
+    return go({})
 
 
 def cases_in(table):

@@ -160,7 +160,7 @@ class Point6(unittest.TestCase):
 
     def test_each_case_is_as_it_must_be_and_no_answer_is_left_out(self):
         for base, sums in oracle.small_sheets():
-            shown = oracle.answers_shown(base, sums, table_of(Sheet(base, sums)))
+            shown = oracle.shown(base, sums, table_of(Sheet(base, sums)))
             self.assertEqual(shown, oracle.all_answers(base, sums), (base, sums))
 
     def test_bases_2_and_12(self):
@@ -171,11 +171,11 @@ class Point6(unittest.TestCase):
             (12, [(("aa", "bb"), "cab")]),
         ):
             table = table_of(Sheet(base, sums))
-            self.assertEqual(oracle.answers_shown(base, sums, table), oracle.all_answers(base, sums), (base, sums))
+            self.assertEqual(oracle.shown(base, sums, table), oracle.all_answers(base, sums), (base, sums))
 
     def test_eight_letters_as_many_as_the_base(self):
         sums = [(("ab", "cd"), "efg"), (("h",), "h")]
-        shown = oracle.answers_shown(8, sums, table_of(Sheet(8, sums)))
+        shown = oracle.shown(8, sums, table_of(Sheet(8, sums)))
         self.assertEqual(shown, oracle.all_answers(8, sums))
 
     def test_figures_of_a_row_rise_and_0_stands_for_no_first_letter(self):

@@ -18,6 +18,15 @@ INTERFACE = {
     },
     "sheets.py": {"Sheet": ["base", "sums"], "worth": ["word", "figures", "base"], "keeps": ["sheet", "figures"]},
     "cases.py": {"table_of": ["sheet"], "answers": ["sheet"], "size_of": ["table"]},
+    "showing.py": {"shows": ["sheet", "table"]},
+    "only.py": {
+        "only": ["sheet"],
+        "sure": ["sheet", "known"],
+        "givens": ["sheet", "answer"],
+        "worthy": ["base", "words"],
+    },
+    "counting.py": {"how_many": ["sheet"]},
+    "notes.py": {"written": ["sheet"], "read": ["text"]},
 }
 METHODS = {("sheets.py", "Sheet"): ["sums", "letters"]}
 
@@ -103,6 +112,27 @@ class Form(unittest.TestCase):
                     self.assertFalse(isinstance(node.ctx, ast.Store) and node.id in BUILTINS, node.id)
                 if isinstance(node, ast.arg):
                     self.assertNotIn(node.arg, barred | BUILTINS, path.name)
+
+    def test_no_name_is_a_method_and_an_attribute(self):
+        methods, attributes = set(), set()
+        for path in files():
+            for node in ast.walk(parsed(path)):
+                if isinstance(node, ast.ClassDef):
+                    methods |= {inner.name for inner in node.body if isinstance(inner, ast.FunctionDef)}
+                if isinstance(node, ast.Attribute) and isinstance(node.ctx, ast.Store):
+                    attributes.add(node.attr)
+        self.assertEqual(methods & attributes, set())
+
+    def test_no_variable_is_called_as_a_function_or_an_import_of_its_file(self):
+        for path in files():
+            nodes = list(ast.walk(parsed(path)))
+            names = set(defined(path))
+            names |= {alias.name for node in nodes if isinstance(node, ast.ImportFrom) for alias in node.names}
+            for node in nodes:
+                if isinstance(node, ast.Name) and isinstance(node.ctx, ast.Store):
+                    self.assertNotIn(node.id, names, path.name)
+                if isinstance(node, (ast.arg, ast.MatchAs)):
+                    self.assertNotIn(node.arg if isinstance(node, ast.arg) else node.name, names, path.name)
 
     def test_nothing_that_the_language_leaves_out(self):
         out = (ast.Global, ast.Div, ast.AsyncFunctionDef, ast.Await, ast.Set)

@@ -98,9 +98,9 @@ def keeps(sheet, figures):
         return False
     if any([figures[letter] == 0 for letter in first_letters(sheet)]):
         return False
-    return all([adds_up(addends, total, figures, sheet.base) for addends, total in sheet.sums()])
+    return all([surplus(addends, total, figures, sheet.base) == 0 for addends, total in sheet.sums()])
 
 
-def adds_up(addends, total, figures, base):
-    """Whether the addends' worths together are the total's."""
-    return sum([worth(word, figures, base) for word in addends]) == worth(total, figures, base)
+def surplus(addends, total, figures, base):
+    """By how much the addends' worths together are more than the total's."""
+    return sum([worth(word, figures, base) for word in addends]) - worth(total, figures, base)
